@@ -1,26 +1,44 @@
 import unittest
 
 from tests.helper import OTHER_KINDS
-from undocover.errors import BadChoice, BadTable
+from undocover.errors import BadChoice, BadNumber, BadTable, NoCover
+from undocover.finding import sought
+from undocover.ranks import all_covers, by_number, how_many, next_one, number_of
+from undocover.room import Room
 from undocover.tables import bare, clash, going
 
+# Its only cover is [0, 1].
 TABLE = (2, 1, [[(0, 0), (2, 1)], [(1, 0), (2, 1)]])
 ASKED = [
     ("clash", lambda table: clash(table, 0, 1)),
     ("going", lambda table: going(table, [0, 1])),
     ("bare", lambda table: bare(table, [0, 1])),
+    ("sought", sought),
+    ("Room", Room),
+    ("all_covers", all_covers),
+    ("how_many", how_many),
+    ("by_number", lambda table: by_number(table, 0)),
+    ("number_of", lambda table: number_of(table, [0, 1])),
+    ("next_one", lambda table: next_one(table, [0, 1])),
 ]
+# Each is refused for another reason where the table is one.
 ASKED_WRONG = [
-    ("clash, wrong one", lambda table: clash(table, None, 0)),
-    ("clash, wrong other", lambda table: clash(table, 0, 99)),
-    ("going, wrong choices", lambda table: going(table, [1, 0])),
-    ("bare, wrong choices", lambda table: bare(table, "01")),
+    ("clash, wrong one", BadChoice, lambda table: clash(table, None, 0)),
+    ("clash, wrong other", BadChoice, lambda table: clash(table, 0, 99)),
+    ("going, wrong choices", BadChoice, lambda table: going(table, [1, 0])),
+    ("bare, wrong choices", BadChoice, lambda table: bare(table, "01")),
+    ("by_number, no number", BadNumber, lambda table: by_number(table, None)),
+    ("by_number, too great", BadNumber, lambda table: by_number(table, 1)),
+    ("number_of, wrong choices", BadChoice, lambda table: number_of(table, [1, 0])),
+    ("number_of, no cover", NoCover, lambda table: number_of(table, [0])),
+    ("next_one, wrong choices", BadChoice, lambda table: next_one(table, "01")),
+    ("next_one, no cover", NoCover, lambda table: next_one(table, [])),
 ]
 
 
 class Tables(unittest.TestCase):
     def refused(self, table):
-        for name, ask in ASKED + ASKED_WRONG:
+        for name, ask in ASKED + [(name, ask) for name, other, ask in ASKED_WRONG]:
             with self.subTest(name, table=table), self.assertRaises(BadTable):
                 ask(table)
 
@@ -29,14 +47,17 @@ class Tables(unittest.TestCase):
         with self.subTest(table=table):
             self.assertIs(going(table, []), True)
             self.assertEqual(bare(table, []), list(range(table[0])))
+            self.assertIs(sought(table).shows(table), True)
+            self.assertEqual(Room(table).how_many(), how_many(table))
+            self.assertEqual(len(all_covers(table)), how_many(table))
             if table[2]:
                 self.assertIs(clash(table, 0, len(table[2]) - 1), True)
 
     def test_the_table_they_start_from_goes(self):
         for name, ask in ASKED:
             ask(TABLE)
-        for name, ask in ASKED_WRONG:
-            with self.subTest(name), self.assertRaises(BadChoice):
+        for name, other, ask in ASKED_WRONG:
+            with self.subTest(name), self.assertRaises(other):
                 ask(TABLE)
 
     def test_other_kinds_for_the_table(self):

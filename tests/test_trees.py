@@ -2,7 +2,7 @@ import copy
 import random
 import unittest
 
-from tests.helper import barred_tables, holds, some_tree
+from tests.helper import barred_tables, chain, changed, holds, own_things, some_tree, tree_of_own_things
 from undocover.answers import Barred
 
 # Things 0 to 2 are main, 3 is beside; thing 2 is only had by a choice that leaves thing 0 to one that has thing 1.
@@ -68,12 +68,7 @@ class RightTrees(unittest.TestCase):
     def test_324_ends(self):
         """Things with 3, 3, 3, 3, 2 and 2 choices of their own, and one without."""
         sizes = [3, 3, 3, 3, 2, 2]
-        rows = [[(thing, 0)] for thing, size in enumerate(sizes) for place in range(size)]
-        tree = ("stuck", 6)
-        for thing in reversed(range(6)):
-            start = sum(sizes[:thing])
-            tree = ("split", thing, [(choice, tree) for choice in range(start, start + sizes[thing])])
-        self.assertIs(shown(tree, (7, 0, rows)), True)
+        self.assertIs(shown(tree_of_own_things(sizes), own_things(sizes, 1)), True)
 
     def test_the_same_table_asked_twice(self):
         answer = Barred(RIGHT)
@@ -175,24 +170,6 @@ class WrongTrees(unittest.TestCase):
         self.assertGreater(min(seen.values()), 100)
 
 
-def changed(tree, table, chance):
-    """A tree with one node of it changed in some way."""
-    if tree[0] == "split" and tree[2] and chance.random() < 0.6:
-        at = chance.randrange(len(tree[2]))
-        choice, inner = tree[2][at]
-        return "split", tree[1], [*tree[2][:at], (choice, changed(inner, table, chance)), *tree[2][at + 1:]]
-    number = chance.choice([*range(-1, sum(table[:2]) + 1), 10 ** 20, -10 ** 20])
-    if tree[0] == "stuck" or not tree[2]:
-        return chance.choice([("stuck", number), ("split", number, []), ("split", tree[1], [(0, ("stuck", number))])])
-    some = list(tree[2])
-    at = chance.randrange(len(some))
-    return chance.choice([
-        ("stuck", tree[1]), ("stuck", number), ("split", number, some), ("split", tree[1], []),
-        ("split", tree[1], some[:at] + some[at + 1:]), ("split", tree[1], some[:at] + some[at:at + 1] + some[at:]),
-        ("split", tree[1], some[::-1]), ("split", tree[1], some[:at] + [(number, some[at][1])] + some[at + 1:]),
-    ])
-
-
 class Fields(unittest.TestCase):
     def test_the_field_is_the_tree(self):
         for tree in (("stuck", 4), RIGHT, FULL, DEEP, ("split", -1, []), ("split", 10 ** 30, [(-5, ("stuck", -9))])):
@@ -262,23 +239,15 @@ class Fields(unittest.TestCase):
 class GreatTrees(unittest.TestCase):
     """Ten thousand nodes; nothing here compares or prints a whole tree, as Python itself does not go so deep."""
 
-    def chain(self, many, thing_at):
-        lists = []
-        tree = ("stuck", thing_at(many))
-        for depth in reversed(range(many)):
-            lists.append([(thing_at(depth), tree)])
-            tree = ("split", thing_at(depth), lists[-1])
-        return tree, lists
-
     def test_a_chain_is_answered(self):
         for thing_at in (lambda depth: 0, lambda depth: depth, lambda depth: -depth, lambda depth: depth % 2):
-            tree, lists = self.chain(9999, thing_at)
+            tree, lists = chain(9999, thing_at)
             for table in ((1, 0, []), (1, 0, [[(0, 0)]]), (10, 0, [[(thing, 0)] for thing in range(9)])):
                 answer = Barred(tree)
                 self.assertIs(answer.shows(table), False)
 
     def test_a_chain_is_copied_to_its_end(self):
-        tree, lists = self.chain(9999, lambda depth: depth)
+        tree, lists = chain(9999, lambda depth: depth)
         answer = Barred(tree)
         for some in lists:
             some.append("changed")
@@ -289,7 +258,7 @@ class GreatTrees(unittest.TestCase):
         self.assertEqual((node, depth), (("stuck", 9999), 9999))
 
     def test_a_right_tree_with_a_chain_at_one_place(self):
-        tree, lists = self.chain(9000, lambda depth: 2)
+        tree, lists = chain(9000, lambda depth: 2)
         table = (3, 0, [[(0, 0), (1, 0)], [(0, 0)], [(1, 0)]])
         right = ("split", 0, [(0, ("stuck", 2)), (1, ("stuck", 2))])
         self.assertIs(shown(right, table), True)

@@ -3,7 +3,7 @@
 Trees are walked by lists of what is still to do, not by calls within calls, as they may be deeper than calls can go.
 """
 
-from undocover.tables import bare_things, has_thing, is_cover, is_number, unclashed
+from undocover.tables import bare_things, having, is_cover, is_number, left_by, unclashed
 
 STUCK = "stuck"
 SPLIT = "split"
@@ -32,7 +32,7 @@ class Barred(Answer):
 
     def shows(self, table):
         """Whether the tree, as it stands now, is one of the table."""
-        return is_tree(table, self.tree)
+        return is_tree(table, [], unclashed(table, []), self.tree)
 
 
 class Best(Answer):
@@ -62,15 +62,15 @@ def copied(value):
     return made[0]
 
 
-def is_tree(table, tree):
-    """Whether it is a tree of the table, from no taken choices on."""
-    todo = [([], tree)]
+def is_tree(table, taken, free, tree):
+    """Whether it is a tree of the table, from these taken choices on, where just the free ones are open."""
+    todo = [(taken, free, tree)]
     while todo:
-        taken, node = todo.pop()
-        if not is_node(node) or not node_holds(table, taken, node):
+        some, left, node = todo.pop()
+        if not is_node(node) or not node_holds(table, some, left, node):
             return False
         if node[0] == SPLIT:
-            todo.extend([([*taken, choice], inner) for choice, inner in node[2]])
+            todo.extend([([*some, choice], left_by(table, left, choice), inner) for choice, inner in node[2]])
     return True
 
 
@@ -90,15 +90,15 @@ def are_branches(branches):
     return all([isinstance(pair, tuple) and len(pair) == 2 and is_number(pair[0]) for pair in branches])
 
 
-def node_holds(table, taken, node):
-    """Whether what a node says itself is so when these choices are taken.
+def node_holds(table, taken, free, node):
+    """Whether what a node says itself is so when these choices are taken, and those still open.
 
     As its thing must be bare, each split takes one more main thing: no tree that holds so far goes on for long.
     """
     thing = node[1]
     if thing not in bare_things(table, taken):
         return False
-    having = [choice for choice in unclashed(table, taken) if has_thing(table, choice, thing)]
+    branching = having(table, free, thing)
     if node[0] == STUCK:
-        return len(having) == 0
-    return len(having) > 0 and [pair[0] for pair in node[2]] == having
+        return len(branching) == 0
+    return len(branching) > 0 and [pair[0] for pair in node[2]] == branching

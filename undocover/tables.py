@@ -119,6 +119,11 @@ def has_thing(table, choice, thing):
     return any([item[0] == thing for item in table[2][choice]])
 
 
+def having(table, choices, thing):
+    """Those of the choices that have a thing, in their turn."""
+    return [choice for choice in choices if has_thing(table, choice, thing)]
+
+
 def go_together(table, choices):
     """Whether no two of the choices, at unlike places, clash."""
     return all([not clashes_with(table, choice, choices[:at]) for at, choice in enumerate(choices)])
@@ -138,6 +143,11 @@ def bare_things(table, choices):
 def unclashed(table, taken):
     """The choices that clash with none of the taken ones, rising."""
     return [choice for choice in range(len(table[2])) if not clashes_with(table, choice, taken)]
+
+
+def left_by(table, choices, taken):
+    """Those of the choices that do not clash with one that is taken, in their turn."""
+    return [choice for choice in choices if not are_clashing(table, choice, taken)]
 
 
 def is_cover(table, choices):
