@@ -123,6 +123,15 @@ class Language(unittest.TestCase):
                 read_names = {node.id for node in nodes(tree, ast.Name)}
                 self.assertLessEqual(read_names - set(names), BUILTINS)
 
+    def test_names_within_functions(self):
+        for path in FILES:
+            with self.subTest(path.name):
+                text, tree = read(path)
+                taken = {alias.asname or alias.name for node in nodes(tree, ast.ImportFrom) for alias in node.names}
+                taken |= {node.name for node in nodes(tree, ast.ClassDef)}
+                for function in nodes(tree, ast.FunctionDef):
+                    self.assertEqual(taken & (set(bound_names(function)) - {function.name}), set(), function.name)
+
     def test_methods_and_attributes(self):
         trees = [read(path)[1] for path in FILES]
         own, assigned = set(), set()

@@ -1,14 +1,19 @@
 import unittest
 
 from tests.helper import OTHER_KINDS
-from undocover.errors import BadChoice, BadNumber, BadTable, NoCover
+from undocover.answers import Best
+from undocover.errors import BadChoice, BadNumber, BadOrder, BadPrices, BadTable, NoCover, TooGreat
 from undocover.finding import sought
+from undocover.joining import put_beside, rearranged, renamed, without
+from undocover.parts import forced, idle, part_table, parts, uses
+from undocover.prices import cheapest
 from undocover.ranks import all_covers, by_number, how_many, next_one, number_of
 from undocover.room import Room
 from undocover.tables import bare, clash, going
 
 # Its only cover is [0, 1].
 TABLE = (2, 1, [[(0, 0), (2, 1)], [(1, 0), (2, 1)]])
+GREAT = (10, 6, [[(0, 0)] for place in range(16)])
 ASKED = [
     ("clash", lambda table: clash(table, 0, 1)),
     ("going", lambda table: going(table, [0, 1])),
@@ -20,6 +25,18 @@ ASKED = [
     ("by_number", lambda table: by_number(table, 0)),
     ("number_of", lambda table: number_of(table, [0, 1])),
     ("next_one", lambda table: next_one(table, [0, 1])),
+    ("parts", parts),
+    ("part_table", lambda table: part_table(table, 0)),
+    ("uses", uses),
+    ("idle", idle),
+    ("forced", forced),
+    ("put_beside, one", lambda table: put_beside(table, TABLE)),
+    ("put_beside, other", lambda table: put_beside(TABLE, table)),
+    ("put_beside, both", lambda table: put_beside(table, table)),
+    ("without", lambda table: without(table, 0)),
+    ("renamed", lambda table: renamed(table, [1, 0])),
+    ("rearranged", lambda table: rearranged(table, [1, 0])),
+    ("cheapest", lambda table: cheapest(table, [1, 2])),
 ]
 # Each is refused for another reason where the table is one.
 ASKED_WRONG = [
@@ -33,6 +50,15 @@ ASKED_WRONG = [
     ("number_of, no cover", NoCover, lambda table: number_of(table, [0])),
     ("next_one, wrong choices", BadChoice, lambda table: next_one(table, "01")),
     ("next_one, no cover", NoCover, lambda table: next_one(table, [])),
+    ("part_table, no number", BadNumber, lambda table: part_table(table, None)),
+    ("part_table, too great", BadNumber, lambda table: part_table(table, 1)),
+    ("put_beside, too great with one", TooGreat, lambda table: put_beside(table, GREAT)),
+    ("put_beside, too great with other", TooGreat, lambda table: put_beside(GREAT, table)),
+    ("without, wrong choice", BadChoice, lambda table: without(table, 2)),
+    ("renamed, wrong order", BadOrder, lambda table: renamed(table, [0, 1, 2])),
+    ("rearranged, wrong order", BadOrder, lambda table: rearranged(table, [0, 0])),
+    ("cheapest, no list", BadPrices, lambda table: cheapest(table, None)),
+    ("cheapest, too few", BadPrices, lambda table: cheapest(table, [1])),
 ]
 
 
@@ -50,7 +76,13 @@ class Tables(unittest.TestCase):
             self.assertIs(sought(table).shows(table), True)
             self.assertEqual(Room(table).how_many(), how_many(table))
             self.assertEqual(len(all_covers(table)), how_many(table))
+            self.assertEqual(sorted(sum(parts(table), [])), list(range(table[0])))
+            self.assertEqual(len(uses(table)), len(table[2]))
+            self.assertEqual(renamed(table, list(range(table[0]))), table)
+            self.assertEqual(rearranged(table, list(range(len(table[2])))), table)
+            self.assertEqual(cheapest(table, [0] * len(table[2])).__class__ is Best, how_many(table) > 0)
             if table[2]:
+                self.assertEqual(len(without(table, 0)[2]), len(table[2]) - 1)
                 self.assertIs(clash(table, 0, len(table[2]) - 1), True)
 
     def test_the_table_they_start_from_goes(self):

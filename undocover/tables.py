@@ -1,6 +1,6 @@
 """Tables: main things, things beside, and choices that have some of them."""
 
-from undocover.errors import BadChoice, BadTable
+from undocover.errors import BadChoice, BadTable, TooGreat
 
 MOST_MAIN = 10
 MOST_BESIDE = 6
@@ -46,6 +46,12 @@ def check_choices(table, choices):
     """Raise BadChoice if it is no rising list of counts of choices of the table."""
     if not are_counts(table, choices):
         raise BadChoice("this is no rising list of counts of choices")
+
+
+def check_made(table):
+    """Raise TooGreat if what was put together, right but for its bounds, is no table."""
+    if not is_table(table):
+        raise TooGreat("this would be beyond the bounds of a table")
 
 
 def is_number(value):
